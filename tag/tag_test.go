@@ -132,6 +132,27 @@ func TestWrongTags(t *testing.T) { // P3.1, P3.6
 	}
 }
 
+func TestTagsWrongInManyNumbers(t *testing.T) { // P3.1
+	wrong := []int{math.MinInt, -1, most + 1, 1 << 48, math.MaxInt}
+	for _, a := range wrong {
+		for _, b := range wrong {
+			for i, x := range []tag.Tag{
+				{Replica: a, Region: b, Incarnation: 1},
+				{Region: a, Place: b, Incarnation: 1},
+				{Region: a, Place: 1, Index: b, Incarnation: 1},
+				{Region: 1, Place: a, Index: b, Incarnation: 1},
+				{Region: 1, Index: a, Incarnation: b},
+				{Replica: a, Region: 1, Incarnation: b},
+				{Replica: a, Region: b, Place: a, Index: b, Incarnation: a},
+			} {
+				if y, e := tag.Print(x); tag.May(x) || y != nil || e != api.ErrArg {
+					t.Errorf("%d: %v: %t, %v, %d", i, x, tag.May(x), y, e)
+				}
+			}
+		}
+	}
+}
+
 func TestBytesOfWrongTags(t *testing.T) { // P3.1, P3.6
 	tried := 0
 	for _, x := range append(wrongTags(), tag.Tag{}) {
